@@ -4,6 +4,7 @@ package code
 import (
 	"stripes/api"
 	"stripes/field"
+	"stripes/linear"
 )
 
 // Right tells whether there are stripes of so many shards.
@@ -93,4 +94,21 @@ func combine(row []byte, shards [][]byte) []byte {
 		field.AddTimes(sum, shards[j], c)
 	}
 	return sum
+}
+
+// Decodable tells whether the shards that are not lost tell all the data.
+func Decodable(p api.Params, lost uint64) bool {
+	rows, err := Matrix(p)
+	return err == nil && linear.Rank(kept(rows, lost)) == p.Data
+}
+
+// kept has the rows of the shards that are not lost.
+func kept(rows [][]byte, lost uint64) [][]byte {
+	var l [][]byte
+	for i, row := range rows {
+		if lost>>i&1 == 0 {
+			l = append(l, row)
+		}
+	}
+	return l
 }

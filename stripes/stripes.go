@@ -6,6 +6,7 @@ import (
 	"stripes/code"
 	"stripes/field"
 	"stripes/linear"
+	"stripes/program"
 )
 
 // Mul multiplies in the field (P3).
@@ -24,22 +25,22 @@ func Matrix(p api.Params) ([][]byte, error) { return code.Matrix(p) }
 func Encode(p api.Params, data [][]byte) ([][]byte, error) { return code.Encode(p, data) }
 
 // Decodable tells whether shards that are lost can be repaired (P7).
-func Decodable(p api.Params, lost uint64) bool { return false }
+func Decodable(p api.Params, lost uint64) bool { return code.Decodable(p, lost) }
 
 // Compile makes a program that repairs lost shards (P9).
 func Compile(p api.Params, lost uint64) (api.Program, error) { return api.Program{}, nil }
 
 // Check tells whether a program is one (P8).
-func Check(g api.Program, shards int) error { return nil }
+func Check(g api.Program, shards int) error { return program.Check(g, shards) }
 
 // Run runs a program over shards (P8).
-func Run(g api.Program, shards [][]byte) ([]api.Output, error) { return nil, nil }
+func Run(g api.Program, shards [][]byte) ([]api.Output, error) { return program.Run(g, shards) }
 
 // Pack writes a program (P10).
-func Pack(g api.Program) ([]byte, error) { return nil, nil }
+func Pack(g api.Program) ([]byte, error) { return program.Pack(g) }
 
 // Unpack reads one (P10).
-func Unpack(b []byte) (api.Program, error) { return api.Program{}, nil }
+func Unpack(b []byte) (api.Program, error) { return program.Unpack(b) }
 
 // Archive has objects on drives.
 type Archive struct{}
