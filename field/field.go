@@ -41,13 +41,18 @@ func Inv(a byte) byte {
 type Table struct{ low, high [16]byte }
 
 // TableOf makes the table of a number.
-func TableOf(c byte) Table {
-	var t Table
-	for i := range t.low {
-		t.low[i] = Mul(c, byte(i))
-		t.high[i] = Mul(c, byte(i)<<4)
+func TableOf(c byte) Table { return Table{low: multiples(c), high: multiples(Mul(c, 1<<4))} }
+
+// multiples has the products of c with the 16 numbers that are less than x^4: those with a power of x, and sums of them.
+func multiples(c byte) [16]byte {
+	var l [16]byte
+	for power := 1; power < len(l); power *= 2 {
+		for i := range power {
+			l[power+i] = l[i] ^ c
+		}
+		c = timesX(c)
 	}
-	return t
+	return l
 }
 
 // Times multiplies the table's number by another.

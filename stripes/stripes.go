@@ -6,6 +6,7 @@ import (
 	"stripes/code"
 	"stripes/field"
 	"stripes/linear"
+	"stripes/plan"
 	"stripes/program"
 )
 
@@ -28,7 +29,7 @@ func Encode(p api.Params, data [][]byte) ([][]byte, error) { return code.Encode(
 func Decodable(p api.Params, lost uint64) bool { return code.Decodable(p, lost) }
 
 // Compile makes a program that repairs lost shards (P9).
-func Compile(p api.Params, lost uint64) (api.Program, error) { return api.Program{}, nil }
+func Compile(p api.Params, lost uint64) (api.Program, error) { return plan.Compile(p, lost) }
 
 // Check tells whether a program is one (P8).
 func Check(g api.Program, shards int) error { return program.Check(g, shards) }
