@@ -4,30 +4,43 @@ package plan
 import (
 	"stripes/api"
 	"stripes/code"
+	"stripes/set"
 )
 
 // Compile makes a program that puts the lost shards out.
 func Compile(p api.Params, lost uint64) (api.Program, error) {
-	matrix, err := code.Matrix(p)
+	if !code.Right(p) {
+		return api.Program{}, api.ErrParams
+	}
+	all := set.First(p.Shards())
+	gone := set.Set(lost) & all
+	c, err := checksFor(p, gone)
 	if err != nil {
 		return api.Program{}, err
-	}
-	all := first(p.Shards())
-	gone := set(lost) & all
-	c := checksOf(matrix, p.Data)
-	for i := range gone.members() {
-		if !c.tell(i) {
-			return api.Program{}, api.ErrLost
-		}
 	}
 	return write(fewest(c, all&^gone), gone, all&^gone), nil
 }
 
+// checksFor makes the checks that tell the lost shards, from the least number on.
+func checksFor(p api.Params, gone set.Set) (checks, error) {
+	matrix, err := code.Matrix(p)
+	if err != nil {
+		return checks{}, err
+	}
+	c := checksOf(matrix, p.Data)
+	for i := range gone.Members() {
+		if !c.tell(i) {
+			return checks{}, api.ErrLost
+		}
+	}
+	return c, nil
+}
+
 // write makes the program that adds the lost shards up as the checks tell them.
 // Register 0 has the shard that was loaded last, so that none is loaded twice; behind it each lost shard has a register of its own.
-func write(c checks, gone, kept set) api.Program {
-	g := api.Program{Regs: 1 + gone.size()}
-	for i := range kept.members() {
+func write(c checks, gone, kept set.Set) api.Program {
+	g := api.Program{Regs: 1 + gone.Size()}
+	for i := range kept.Members() {
 		if !c.reads(i) {
 			continue
 		}
@@ -39,7 +52,7 @@ func write(c checks, gone, kept set) api.Program {
 		}
 	}
 	register := 0
-	for i := range gone.members() {
+	for i := range gone.Members() {
 		register++
 		g.Steps = append(g.Steps, api.Step{Kind: api.Put, A: register, B: i})
 	}

@@ -1,7 +1,10 @@
 // Package program checks the programs that repair shards, runs them, and writes and reads them as bytes.
 package program
 
-import "stripes/api"
+import (
+	"stripes/api"
+	"stripes/set"
+)
 
 // Check tells whether a program can be run over so many shards.
 func Check(g api.Program, shards int) error {
@@ -34,3 +37,14 @@ func fits(s api.Step, regs, shards int) bool {
 
 // within tells whether n is one of the numbers from 0 to end - 1.
 func within(n, end int) bool { return n >= 0 && n < end }
+
+// Loads tells which shards a program loads, of one that Check finds right.
+func Loads(g api.Program) set.Set {
+	var l set.Set
+	for _, s := range g.Steps {
+		if s.Kind == api.Load {
+			l = l.With(s.B)
+		}
+	}
+	return l
+}

@@ -3,6 +3,7 @@ package stripes
 
 import (
 	"stripes/api"
+	"stripes/archive"
 	"stripes/code"
 	"stripes/field"
 	"stripes/linear"
@@ -44,22 +45,28 @@ func Pack(g api.Program) ([]byte, error) { return program.Pack(g) }
 func Unpack(b []byte) (api.Program, error) { return program.Unpack(b) }
 
 // Archive has objects on drives.
-type Archive struct{}
+type Archive struct{ kept *archive.Archive }
 
 // Open opens an archive (P11).
-func Open(a *api.Array, p api.Params, o api.Options) (*Archive, error) { return nil, nil }
+func Open(a *api.Array, p api.Params, o api.Options) (*Archive, error) {
+	kept, err := archive.Open(a, p, o)
+	if err != nil {
+		return nil, err
+	}
+	return &Archive{kept: kept}, nil
+}
 
 // Put adds an object (P12).
-func (a *Archive) Put(name string, data []byte) error { return nil }
+func (a *Archive) Put(name string, data []byte) error { return a.kept.Put(name, data) }
 
 // Get tells an object (P13).
-func (a *Archive) Get(name string) ([]byte, error) { return nil, nil }
+func (a *Archive) Get(name string) ([]byte, error) { return a.kept.Get(name) }
 
 // Delete removes an object (P12).
-func (a *Archive) Delete(name string) error { return nil }
+func (a *Archive) Delete(name string) error { return a.kept.Delete(name) }
 
 // List tells all objects (P13).
-func (a *Archive) List() ([]api.Entry, error) { return nil, nil }
+func (a *Archive) List() ([]api.Entry, error) { return a.kept.List() }
 
 // Scrub looks at all blocks, and writes bad ones anew (P17).
 func (a *Archive) Scrub() error { return nil }
