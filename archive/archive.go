@@ -1,6 +1,6 @@
 // Package archive keeps objects on a volume.
 //
-// An object stands in stripes of its own. The catalog of all objects stands in further stripes, its pages, each of which begins with the number of the next one. Where the first page is, the root tells, which stands in the first block of every drive.
+// An object stands in stripes of its own. The catalog of all objects stands in further stripes, its pages, each of which begins with the number of the next one. Where the first page is, the root tells, which stands in the first block of every drive. The second block tells that the drive is filled.
 // What is changed is written where nothing stands: first the stripes of an object, then the pages of a new catalog. Then the root is written anew, drive by drive. Before its first block is written all is as it was; behind that, Open finds the new root, and brings it to the drives that lack it.
 package archive
 
@@ -15,8 +15,9 @@ import (
 )
 
 const (
-	rootBlock   = 0 // the block in which the root stands
-	firstStripe = 1 // the first one that stripes have
+	rootBlock   = iota // the block in which the root stands
+	filledBlock        // the one by which a drive is known that has all that was written
+	firstStripe        // the first one that stripes have
 )
 
 // Archive has objects.
@@ -121,8 +122,9 @@ func (a *Archive) get(name string) ([]byte, error) {
 	}
 	o := a.objects[place]
 	data := make([]byte, 0, o.Size)
+	reader := a.volume.Reader()
 	for _, block := range o.Stripes {
-		b, err := a.volume.ReadStripe(block, min(o.Size-len(data), a.volume.StripeSize()))
+		b, err := reader.Data(block, min(o.Size-len(data), a.volume.StripeSize()))
 		if err != nil {
 			return nil, err
 		}

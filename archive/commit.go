@@ -8,25 +8,17 @@ import (
 )
 
 // commit lets a catalog take the place of the last one, by pages in which nothing stands.
-// The root comes last: all that it leads to stands on the drives when it does.
+// The root comes last: all that it leads to stands on the drives when it does. On lost drives it is lost, but one root is enough to find all.
 func (a *Archive) commit(objects catalog.Catalog, pages []int) error {
 	packed := objects.Pack()
 	if err := a.writePages(packed, pages); err != nil {
 		return err
 	}
-	root := record.Root{Params: a.volume.Params(), Turn: a.root.Turn + 1, Length: len(packed)}
-	if len(pages) > 0 {
-		root.First = pages[0]
-	}
-	for drive := range a.volume.Params().Shards() {
-		a.writeRoot(drive, root)
-	}
+	root := record.Root{Params: a.volume.Params(), Turn: a.root.Turn + 1, First: pages[0], Length: len(packed)}
+	a.volume.WriteCopies(rootBlock, root, a.volume.All())
 	a.root, a.pages, a.objects = root, pages, objects
 	return nil
 }
-
-// writeRoot writes a root on a drive. It is no matter whether that drive is lost: one root is enough to find all.
-func (a *Archive) writeRoot(drive int, root record.Root) { a.volume.Write(drive, rootBlock, root) }
 
 // writePages writes the bytes of a catalog.
 func (a *Archive) writePages(packed []byte, pages []int) error {
@@ -51,10 +43,10 @@ func (a *Archive) readPages(root record.Root) (packed []byte, pages []int, err e
 	if count > a.volume.Blocks() {
 		return nil, nil, api.ErrLost
 	}
-	next := root.First
+	next, reader := root.First, a.volume.Reader()
 	for range count {
 		size := min(root.Length-len(packed), a.pageSize())
-		page, err := a.volume.ReadStripe(next, record.NumberSize+size)
+		page, err := reader.Data(next, record.NumberSize+size)
 		if err != nil {
 			return nil, nil, err
 		}

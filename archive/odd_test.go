@@ -62,6 +62,17 @@ func TestOddCatalogs(t *testing.T) {
 	opensNot(t, "a catalog of noughts", lead(2, 84), map[int][]byte{2: page(0, nil)})
 }
 
+func TestWhatIsLeftIsNotTakenForANewArray(t *testing.T) {
+	array, _ := kept(t)
+	array.Renew(0)
+	for drive := 1; drive < params.Shards(); drive++ {
+		array.Spoil(drive, rootBlock, -1)
+	}
+	if a, err := Open(array, params, api.Options{}); a != nil || err != error(api.ErrLost) {
+		t.Errorf("without roots: %v, %v, want ErrLost alone", a, err)
+	}
+}
+
 func TestFullIsTold(t *testing.T) {
 	// An archive fills drives so far only, that there is room to delete; these drives are fuller.
 	var stripes []int

@@ -26,57 +26,68 @@ func Open(array *api.Array, p api.Params, o api.Options) (*Archive, error) {
 
 // load finds what an earlier archive left, or begins a new one where there was none.
 func (a *Archive) load() error {
-	p := a.volume.Params()
-	found := a.readRoots()
-	root, blank := survey(found)
+	found := a.volume.ReadCopies(rootBlock)
+	last := lastRoot(found)
 	switch {
-	case root.Turn > 0 && root.Params != p:
+	case last.Turn > 0 && last.Params != a.volume.Params():
 		return api.ErrParams
-	case root.Turn > 0:
-		return a.resume(root, found)
-	case code.Decodable(p, uint64(^blank)):
-		return a.commit(nil, nil)
+	case last.Turn > 0:
+		return a.resume(last, found)
+	case code.Decodable(a.volume.Params(), uint64(^blanks(found))):
+		return a.begin()
 	}
 	return api.ErrLost
 }
 
-// readRoots reads the block of the root on each drive: nil, if it cannot be read.
-func (a *Archive) readRoots() []record.Record {
-	found := make([]record.Record, a.volume.Params().Shards())
-	for drive := range found {
-		if r, err := a.volume.Read(drive, rootBlock); err == nil {
-			found[drive] = r
+// lastRoot looks for the last root that was written: one of turn 0, if there is none.
+func lastRoot(found []record.Record) (last record.Root) {
+	for _, r := range found {
+		if x, ok := r.(record.Root); ok && x.Turn > last.Turn {
+			last = x
 		}
 	}
-	return found
+	return last
 }
 
-// survey looks for the last root that was written: one of turn 0, if there is none. It tells too on which drives no root was ever written.
-func survey(found []record.Record) (last record.Root, blank set.Set) {
+// blanks tells on which drives nothing was ever written.
+func blanks(found []record.Record) (blank set.Set) {
 	for drive, r := range found {
-		switch x := r.(type) {
-		case record.Root:
-			if x.Turn > last.Turn {
-				last = x
-			}
-		case record.Blank:
+		if _, ok := r.(record.Blank); ok {
 			blank = blank.With(drive)
 		}
 	}
-	return last, blank
+	return blank
+}
+
+// unlike tells on which drives another record stands than should.
+func unlike(found []record.Record, right record.Record) (wrong set.Set) {
+	for drive, r := range found {
+		if r != right {
+			wrong = wrong.With(drive)
+		}
+	}
+	return wrong
+}
+
+// begin makes an archive without objects.
+// The root comes last here too: wherever there is one, a drive that is not filled is one that came later.
+func (a *Archive) begin() error {
+	a.volume.WriteCopies(filledBlock, record.Filled{}, a.volume.All())
+	pages, ok := a.take(a.pagesOf(0))
+	if !ok {
+		return api.ErrFull
+	}
+	return a.commit(nil, pages)
 }
 
 // resume goes on from the last root.
 // Where the power was cut, some drives lack it: they get it before anything else is written, for what the root ahead of it leads to is not kept any more.
 func (a *Archive) resume(last record.Root, found []record.Record) error {
+	a.volume.Hollow = blanks(a.volume.ReadCopies(filledBlock))
 	if err := a.loadCatalog(last); err != nil {
 		return err
 	}
-	for drive, r := range found {
-		if r != last {
-			a.writeRoot(drive, last)
-		}
-	}
+	a.volume.WriteCopies(rootBlock, last, unlike(found, last))
 	return nil
 }
 

@@ -10,8 +10,8 @@ import (
 // pageSize tells how many bytes of the catalog a page has: it begins with the number of the next one.
 func (a *Archive) pageSize() int { return a.volume.StripeSize() - record.NumberSize }
 
-// pagesOf tells how many pages a catalog of so many bytes takes.
-func (a *Archive) pagesOf(length int) int { return catalog.Pieces(length, a.pageSize()) }
+// pagesOf tells how many pages a catalog of so many bytes takes. One without objects has a page too, so that each change writes a stripe ahead of the root, and is refused if too many drives are lost.
+func (a *Archive) pagesOf(length int) int { return max(1, catalog.Pieces(length, a.pageSize())) }
 
 // roomFor tells whether there is room for so many stripes more, with a catalog of so many pages.
 // The pages are counted twice: whatever is deleted later, there is room then for the pages that take the place of these.

@@ -53,6 +53,9 @@ func TestReadingOfWrongParams(t *testing.T) {
 	}
 }
 
+// alike tells whether programs are the same.
+func alike(a, b api.Program) bool { return a.Regs == b.Regs && slices.Equal(a.Steps, b.Steps) }
+
 func TestAShelfAnswersTheSame(t *testing.T) {
 	for room := range 4 {
 		s := NewShelf(room)
@@ -60,8 +63,13 @@ func TestAShelfAnswersTheSame(t *testing.T) {
 			for _, lost := range []set.Set{1, 2, 1, 3, 1, 1, 2, 4, 0, 1} {
 				got, err := s.Reading(p, lost)
 				want, wrong := Reading(p, lost)
-				if err != wrong || got.Regs != want.Regs || !slices.Equal(got.Steps, want.Steps) {
+				if err != wrong || !alike(got, want) {
 					t.Fatalf("%v, lost %b: %v, %v, want %v, %v", p, lost, got, err, want, wrong)
+				}
+				got, err = s.Repairing(p, lost)
+				want, wrong = Compile(p, uint64(lost))
+				if err != wrong || !alike(got, want) {
+					t.Fatalf("%v, lost %b, to be repaired: %v, %v, want %v, %v", p, lost, got, err, want, wrong)
 				}
 			}
 		}

@@ -10,6 +10,7 @@ import (
 const (
 	_ = iota
 	rootKind
+	filledKind
 	shardKind
 )
 
@@ -25,7 +26,7 @@ const (
 	turnSize = 8
 )
 
-// Record is what a block has: a Blank, a Root or a Shard.
+// Record is what a block has: a Blank, a Root, a Filled or a Shard.
 type Record interface {
 	// body is what stands behind the sum.
 	body() []byte
@@ -42,6 +43,9 @@ type Root struct {
 	Length int    // how many bytes the catalog has
 }
 
+// Filled stands on each drive that has all that the archive wrote. One that was put in the place of another lacks it till it is filled.
+type Filled struct{}
+
 // Shard is a stripe's shard.
 type Shard struct{ Bytes [ShardSize]byte }
 
@@ -53,6 +57,8 @@ func (r Root) body() []byte {
 	b = number.Append(b, uint64(r.First), NumberSize)
 	return number.Append(b, uint64(r.Length), NumberSize)
 }
+
+func (Filled) body() []byte { return []byte{filledKind} }
 
 func (s Shard) body() []byte {
 	b := make([]byte, api.BlockSize-sumSize)
@@ -86,6 +92,8 @@ func parse(b api.Block) Record {
 	switch b[sumSize] {
 	case rootKind:
 		return rootOf(b[sumSize+1:])
+	case filledKind:
+		return Filled{}
 	case shardKind:
 		return Shard{Bytes: [ShardSize]byte(b[headSize:])}
 	}

@@ -15,7 +15,7 @@ func some() []Record {
 		full.Bytes[i] = byte(255 - i)
 	}
 	return []Record{
-		Blank{}, Shard{}, full,
+		Blank{}, Filled{}, Shard{}, full,
 		Root{},
 		Root{Params: api.Params{Data: 12, Local: 4}, Turn: 1, First: 2, Length: 3},
 		Root{Params: api.Params{Data: 8, Local: 4, Global: 4}, Turn: math.MaxUint64, First: math.MaxInt32, Length: math.MaxUint32},

@@ -108,6 +108,10 @@ func TestP1NoPanicOverSpoiltArrays(t *testing.T) {
 				s.Delete(fmt.Sprint(2 * i))
 				s.Put(fmt.Sprint(3*i), drawBytes(r, r.IntN(1500)))
 				s.List()
+				s.Replace(r.IntN(p.Shards()+2) - 1)
+				if i%3 == 0 {
+					s.Scrub()
+				}
 			}
 		}
 	}

@@ -18,6 +18,10 @@ func without(t *testing.T, s *stripes.Archive) {
 		answers(t, "Delete without power", s.Delete(name), api.ErrPower)
 		gotNot(t, s, name, api.ErrPower)
 	}
+	answers(t, "Scrub without power", s.Scrub(), api.ErrPower)
+	for _, d := range []int{-1, 0, 99} {
+		answers(t, "Replace without power", s.Replace(d), api.ErrPower)
+	}
 	if l, err := s.List(); l != nil || err != error(api.ErrPower) {
 		t.Fatalf("List without power: %v, %v", l, err)
 	}

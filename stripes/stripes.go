@@ -69,7 +69,7 @@ func (a *Archive) Delete(name string) error { return a.kept.Delete(name) }
 func (a *Archive) List() ([]api.Entry, error) { return a.kept.List() }
 
 // Scrub looks at all blocks, and writes bad ones anew (P17).
-func (a *Archive) Scrub() error { return nil }
+func (a *Archive) Scrub() error { return a.kept.Scrub() }
 
 // Replace fills a drive that was replaced (P17).
-func (a *Archive) Replace(drive int) error { return nil }
+func (a *Archive) Replace(drive int) error { return a.kept.Replace(drive) }

@@ -5,7 +5,6 @@ import (
 
 	"stripes/api"
 	"stripes/code"
-	"stripes/program"
 	"stripes/record"
 	"stripes/set"
 )
@@ -16,12 +15,7 @@ func (v *Volume) WriteStripe(block int, data []byte) error {
 	if err != nil {
 		return err
 	}
-	var lost set.Set
-	for drive, shard := range shards {
-		if v.Write(drive, block, record.Shard{Bytes: [record.ShardSize]byte(shard)}) != nil {
-			lost = lost.With(drive)
-		}
-	}
+	lost := v.WriteShards(block, shards, v.All())
 	if lost != 0 && !code.Decodable(v.params, uint64(lost)) {
 		return api.ErrLost
 	}
@@ -35,63 +29,12 @@ func (v *Volume) cut(data []byte) [][]byte {
 	return slices.Collect(slices.Chunk(whole, record.ShardSize))
 }
 
-// stripe is one that is being read.
-type stripe struct {
-	*Volume
-	block  int
-	shards [][]byte // nil, if it was not read
-	gone   set.Set  // shards that cannot be read
-}
-
-// ReadStripe reads the first bytes of a stripe, as many as are asked for. No drive is read more than once.
-func (v *Volume) ReadStripe(block, size int) ([]byte, error) {
-	s := stripe{Volume: v, block: block, shards: make([][]byte, v.params.Shards())}
-	count := (size + record.ShardSize - 1) / record.ShardSize
-	s.fetch(set.First(count))
-	if s.gone != 0 {
-		if err := s.repair(); err != nil {
-			return nil, err
+// WriteShards writes shards of a stripe on those drives. It tells which of them are lost.
+func (v *Volume) WriteShards(block int, shards [][]byte, drives set.Set) (lost set.Set) {
+	for drive := range drives.Members() {
+		if v.Write(drive, block, record.Shard{Bytes: [record.ShardSize]byte(shards[drive])}) != nil {
+			lost = lost.With(drive)
 		}
 	}
-	return slices.Concat(s.shards[:count]...)[:size:size], nil
-}
-
-// fetch reads shards, but for those that were read.
-func (s *stripe) fetch(shards set.Set) {
-	for i := range (shards &^ s.gone).Members() {
-		if s.shards[i] != nil {
-			continue
-		}
-		r, err := s.Read(i, s.block)
-		if x, ok := r.(record.Shard); ok && err == nil {
-			s.shards[i] = x.Bytes[:]
-		} else {
-			s.gone = s.gone.With(i)
-		}
-	}
-}
-
-// repair works out the data that cannot be read.
-func (s *stripe) repair() error {
-	for {
-		gone := s.gone
-		g, err := s.plans.Reading(s.params, gone)
-		if err != nil {
-			return err
-		}
-		s.fetch(program.Loads(g))
-		if s.gone != gone {
-			continue // another plan is due, without those that turned out to be gone
-		}
-		return s.fill(g)
-	}
-}
-
-// fill runs a program, and lays what it puts out beside what was read.
-func (s *stripe) fill(g api.Program) error {
-	out, err := program.Run(g, s.shards)
-	for _, o := range out {
-		s.shards[o.Shard] = o.Bytes
-	}
-	return err
+	return lost
 }

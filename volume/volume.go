@@ -8,6 +8,7 @@ import (
 	"stripes/api"
 	"stripes/plan"
 	"stripes/record"
+	"stripes/set"
 )
 
 // Volume is an array whose drives have a shard each of every stripe.
@@ -15,6 +16,9 @@ type Volume struct {
 	array  *api.Array
 	params api.Params
 	plans  *plan.Shelf
+
+	// Hollow has drives that lack what was written before they were put in the place of others, as far as that was noticed. Stripes are read without them, if the others are enough.
+	Hollow set.Set
 }
 
 // New makes a volume of an array that has as many drives as there are shards. It keeps so many plans for stripes of which shards are lost.
@@ -24,6 +28,9 @@ func New(array *api.Array, p api.Params, plans int) *Volume {
 
 // Params tells how many shards a stripe has.
 func (v *Volume) Params() api.Params { return v.params }
+
+// All is the set of all drives.
+func (v *Volume) All() set.Set { return set.First(v.params.Shards()) }
 
 // Blocks tells how many blocks of each drive can be used: those whose numbers have room in a record.
 func (v *Volume) Blocks() int { return min(v.array.Blocks(), math.MaxInt32) }

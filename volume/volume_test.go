@@ -3,6 +3,7 @@ package volume
 import (
 	"bytes"
 	"errors"
+	"slices"
 	"testing"
 
 	"stripes/api"
@@ -31,7 +32,7 @@ func written(t *testing.T) (*api.Array, *Volume, []byte) {
 func TestStripesComeBack(t *testing.T) {
 	_, v, data := written(t)
 	for size := range len(data) + 1 {
-		if b, err := v.ReadStripe(5, size); err != nil || !bytes.Equal(b, data[:size]) {
+		if b, err := v.Reader().Data(5, size); err != nil || !bytes.Equal(b, data[:size]) {
 			t.Fatalf("%d bytes: %x, %v", size, b, err)
 		}
 	}
@@ -40,7 +41,7 @@ func TestStripesComeBack(t *testing.T) {
 			t.Fatal(err)
 		}
 		want := append(bytes.Clone(data[:size]), make([]byte, len(data)-size)...)
-		if b, err := v.ReadStripe(6, len(data)); err != nil || !bytes.Equal(b, want) {
+		if b, err := v.Reader().Data(6, len(data)); err != nil || !bytes.Equal(b, want) {
 			t.Fatalf("%d bytes were written: %x, %v", size, b, err)
 		}
 	}
@@ -65,7 +66,7 @@ func TestStripesWithFaults(t *testing.T) {
 			for d := range lost.Members() {
 				faults()[(d+shift)%len(faults())](a, d)
 			}
-			b, err := New(a, params, 0).ReadStripe(5, len(data))
+			b, err := New(a, params, 0).Reader().Data(5, len(data))
 			switch {
 			case code.Decodable(params, uint64(lost)):
 				if err != nil || !bytes.Equal(b, data) {
@@ -85,6 +86,79 @@ func TestStripesWithFaults(t *testing.T) {
 	}
 }
 
+func TestWholeStripesWithFaults(t *testing.T) {
+	whole, v, _ := written(t)
+	want, gone, err := v.Reader().Whole(5)
+	if err != nil || gone != 0 {
+		t.Fatalf("a sound stripe: %b is gone, %v", gone, err)
+	}
+	for lost := range set.First(params.Shards()) + 1 {
+		for shift := range faults() {
+			a := whole.Copy()
+			for d := range lost.Members() {
+				faults()[(d+shift)%len(faults())](a, d)
+			}
+			shards, gone, err := New(a, params, 0).Reader().Whole(5)
+			switch {
+			case !code.Decodable(params, uint64(lost)):
+				if shards != nil || gone != 0 || err != error(api.ErrLost) {
+					t.Fatalf("lost %b: %x, %b, %v, want ErrLost alone", lost, shards, gone, err)
+				}
+			case err != nil || gone != lost || !slices.EqualFunc(shards, want, bytes.Equal):
+				t.Fatalf("lost %b: %x, %b, %v, want %x", lost, shards, gone, err, want)
+			}
+		}
+	}
+}
+
+func TestReadersGoFromStripeToStripe(t *testing.T) {
+	a, v, data := written(t)
+	other := bytes.Repeat([]byte{77}, len(data))
+	if err := v.WriteStripe(6, other); err != nil {
+		t.Fatal(err)
+	}
+	a.Spoil(1, 5, -1)
+	a.Spoil(2, 6, -1)
+	r := v.Reader()
+	for range 3 {
+		for block, want := range map[int][]byte{5: data, 6: other} {
+			if b, err := r.Data(block, len(want)); err != nil || !bytes.Equal(b, want) {
+				t.Fatalf("block %d: %x, %v", block, b, err)
+			}
+			if shards, gone, err := r.Whole(block); err != nil || gone != 1<<(block-4) || !bytes.Equal(slices.Concat(shards[:4]...), want) {
+				t.Fatalf("block %d as a whole: %x, %b, %v", block, shards, gone, err)
+			}
+		}
+	}
+}
+
+func TestHollowDrivesAreReadLast(t *testing.T) {
+	whole, _, data := written(t)
+	for hollow := range set.First(params.Shards()) + 1 {
+		a := whole.Copy()
+		v := New(a, params, 0)
+		v.Hollow = hollow
+		if b, err := v.Reader().Data(5, len(data)); err != nil || !bytes.Equal(b, data) {
+			t.Fatalf("hollow %b: %x, %v", hollow, b, err)
+		}
+		for d, n := range a.Reads() {
+			if n > 1 || n == 1 && hollow.Has(d) && code.Decodable(params, uint64(hollow)) {
+				t.Fatalf("hollow %b: drive %d is read %d times", hollow, d, n)
+			}
+		}
+	}
+}
+
+func TestHollowDrivesAreNoticed(t *testing.T) {
+	for kind, hollow := range []set.Set{2, 2, 0, 0, 0} {
+		a, v, data := written(t)
+		faults()[kind](a, 1)
+		if _, err := v.Reader().Data(5, len(data)); err != nil || v.Hollow != hollow {
+			t.Errorf("fault %d: hollow %b, %v, want %b", kind, v.Hollow, err, hollow)
+		}
+	}
+}
+
 func TestStripesOnLostDrives(t *testing.T) {
 	_, _, data := written(t)
 	for lost := range set.First(params.Shards()) + 1 {
@@ -100,7 +174,7 @@ func TestStripesOnLostDrives(t *testing.T) {
 			}
 			continue
 		}
-		if b, again := v.ReadStripe(5, len(data)); err != nil || again != nil || !bytes.Equal(b, data) {
+		if b, again := v.Reader().Data(5, len(data)); err != nil || again != nil || !bytes.Equal(b, data) {
 			t.Fatalf("lost %b: %v, %x, %v", lost, err, b, again)
 		}
 	}
@@ -123,7 +197,7 @@ func TestPowered(t *testing.T) {
 		t.Errorf("the power is cut at a write: %v", err)
 	}
 	read := func() error {
-		_, err := v.ReadStripe(5, len(data))
+		_, err := v.Reader().Data(5, len(data))
 		return err
 	}
 	if err := Powered(read); err != error(api.ErrPower) {
