@@ -8,6 +8,7 @@ import (
 	"stripes/catalog"
 	"stripes/number"
 	"stripes/record"
+	"stripes/set"
 	"stripes/volume"
 )
 
@@ -49,6 +50,45 @@ func TestOddRoots(t *testing.T) {
 	}
 	opensNot(t, "pages in a ring", lead(2, 84*15), map[int][]byte{2: page(3, nil), 3: page(2, nil)})
 	opensNot(t, "pages in a ring, and more than there are blocks", lead(2, 84*25), map[int][]byte{2: page(2, nil)})
+}
+
+func TestALongRingIsNotGoneRound(t *testing.T) {
+	a := api.NewArray(params.Shards(), 20)
+	v := volume.New(a, params, 0)
+	v.WriteCopies(rootBlock, lead(2, math.MaxUint32), v.All())
+	if err := v.WriteStripe(2, page(2, nil)); err != nil {
+		t.Fatal(err)
+	}
+	if s, err := Open(a, params, api.Options{}); s != nil || err != error(api.ErrLost) {
+		t.Errorf("pages in a ring: %v, %v, want ErrLost alone", s, err)
+	}
+	for d, n := range a.Reads() {
+		if n > a.Blocks() {
+			t.Errorf("drive %d of %d blocks is read %d times", d, a.Blocks(), n)
+		}
+	}
+}
+
+func TestTheLastRootLeads(t *testing.T) {
+	for drive := range params.Shards() {
+		array, was := kept(t)
+		c := array.Copy()
+		a, err := Open(c, params, api.Options{})
+		if err != nil {
+			t.Fatal(err)
+		}
+		if err := a.Delete("a"); err != nil {
+			t.Fatal(err)
+		}
+		a.volume.WriteCopies(rootBlock, was.root, a.volume.All()&^set.Set(0).With(drive))
+		a, err = Open(c, params, api.Options{})
+		if err != nil || a.root.Turn != was.root.Turn+1 || len(a.objects) != 1 {
+			t.Fatalf("the last root is on drive %d alone: turn %d, %d objects, %v", drive, a.root.Turn, len(a.objects), err)
+		}
+		if wrong := unlike(a.volume.ReadCopies(rootBlock), a.root); wrong != 0 {
+			t.Errorf("drives %b lack the last root", wrong)
+		}
+	}
 }
 
 func TestOddCatalogs(t *testing.T) {

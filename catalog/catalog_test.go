@@ -63,9 +63,7 @@ func TestWrongBytesAreRefused(t *testing.T) {
 			t.Errorf("%d bytes of %d are a catalog: %v", n, len(good), c)
 		}
 	}
-	long, great := object("a", 0), object("a", 0)
-	long.Name, great.Size = strings.Repeat("a", 17), 1501
-	for _, c := range []Catalog{{object("", 0)}, {long}, {great}, {object("b", 0), object("a", 0)}, {object("a", 0), object("a", 9)}} {
+	for _, c := range []Catalog{{object("", 0)}, {object(strings.Repeat("a", 17), 0)}, {object("a", 1501)}, {object("b", 0), object("a", 0)}, {object("a", 0), object("a", 9)}} {
 		if got, ok := Unpack(c.Pack(), stripe); ok || got != nil {
 			t.Errorf("%v is taken as %v", c, got)
 		}

@@ -245,18 +245,3 @@ func TestP17LostDrivesAreNotReplaced(t *testing.T) {
 		}
 	}
 }
-
-func TestP17WithoutPower(t *testing.T) {
-	for _, p := range few {
-		whole, l := some(t, p)
-		r := draw()
-		bad := drawSet(r, p, 1)
-		for _, d := range shardsOf(bad) {
-			spoils()[1](r, whole, d)
-		}
-		for _, call := range []func(*stripes.Archive) error{(*stripes.Archive).Scrub, func(s *stripes.Archive) error { return s.Replace(0) }} {
-			for range cuts(t, p, whole, l, change{call, func(objects) {}}) {
-			}
-		}
-	}
-}
